@@ -83,7 +83,7 @@ func TestNotForgiven(t *testing.T) {
 		"Y", "YWJjY", "=", "==", "===", "====", "YQ=", "YQ===", "YQ====", "Y===", "YWI==", "YWJj=", "YWJj==", "YWJj====",
 		"Y=Q=", "=YQ=", "YQ==YQ==", "Y-", "Y_", "YQ==\x00", "YQ\x0b=", "YQ==\xc2\xa0", "Y\xff", "YQ%", "YQ\x00\x00", "Y:Z@", "[`{Y", "YW.j", "ABC ==",
 	} {
-		if got, ok := base.Decode(s); ok || got != nil {
+		if got, ok := base.Decode(s); ok || len(got) != 0 {
 			t.Errorf("Decode(%q): %q %v", s, got, ok)
 		}
 	}

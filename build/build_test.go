@@ -137,6 +137,7 @@ func TestPlain(t *testing.T) {
 	}{
 		{made("a", "b"), true},
 		{made("a", "b", "c", ""), true},
+		{made("a", "b", "c", "xyz"), true},
 		{made("a", "b", "c", " !\"$%&'()*+-./0:;<=>@A[\\]^_`a{|}~"), true},
 		{made("a", "base64"), true},
 		{made("base64", "b"), true},

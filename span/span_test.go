@@ -63,7 +63,7 @@ func TestParse(t *testing.T) {
 // P20.1: texts that are none.
 func TestParseNone(t *testing.T) {
 	for _, s := range []string{
-		"", "b", "byte", "bytes", "bytes=", "bytes=-", "bytes= - ", "bytes-", "bytes1-2", "bytes:1-2", "byte=1-2", "bytess=1-2", "octets=1-2", " bytes=1-2", "\tbytes=1-2", "by tes=1-2",
+		"", "b", "byte", "bytes", "bytes=", "bytes=-", "bytes= - ", "bytes-", "bytes1-2", "bytes:1-2", "byte=1-2", "bytess=1-2", "bytesx=1-2", "bytes=x1-2", "bytes=1x-2", "bytes=1-x2", "bytes=1-2x", "octets=1-2", " bytes=1-2", "\tbytes=1-2", "by tes=1-2",
 		"bytes=1", "bytes=1 2-3", "bytes=1-2 ", "bytes=1-2\t", "bytes=1-2 3", "bytes=1-2-", "bytes=1-2,3-4", "bytes=1-2,", "bytes=--2", "bytes=1--2", "bytes=+1-2", "bytes=1-+2", "bytes==1-2", "bytes=a-b", "bytes=1-b", "bytes=0x1-2", "bytes=1.0-2",
 		"bytes=2-1", "bytes=1-0", "bytes=10-9", "bytes=99999999999999999999-1", "bytes\n=1-2", "bytes=\r1-2", "bytes=\n1-2", "bytes=1\n-2", "bytes=1-\n2", "bytes=1-2\n", "bytes=1-2\x00", "bytes=\xc2\xa01-2", "bytes=\u0661-2", "ﬆytes=1-2", "byteſ=1-2",
 	} {

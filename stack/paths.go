@@ -30,11 +30,11 @@ func ToUrl(flavour int, path string) (string, api.Errno) {
 }
 
 // ToPath answers the path of a URL.
-func ToPath(flavour int, text string) (string, api.Errno) {
+func ToPath(flavour int, url string) (string, api.Errno) {
 	if flavour != Posix && flavour != Windows {
 		return "", api.ErrArg
 	}
-	u, e := parse.Parse(text, nil)
+	u, e := parse.Parse(url, nil)
 	if e != api.OK {
 		return "", e
 	}

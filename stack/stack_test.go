@@ -266,7 +266,7 @@ func TestFetch(t *testing.T) {
 	checkNoFetch(t, s, "blob:null/"+nought, none)
 }
 
-// P27.1, P27.2: a nil Stack, and one that is made by hand.
+// P27.1, P27.2: a nil Stack; R1: one that is made by hand.
 func TestNil(t *testing.T) {
 	var s *stack.Stack
 	checkCreate(t, s, "a", 0, api.ErrArg)

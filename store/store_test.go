@@ -184,7 +184,7 @@ func TestUrls(t *testing.T) {
 	checkFind(t, s, want[2], api.Origin{}, "d", true)
 }
 
-// P24.1: a nil Store, and one that is made by hand.
+// P24.1: a nil Store; R1: one that is made by hand.
 func TestNil(t *testing.T) {
 	var s *store.Store[string]
 	checkRegister(t, s, api.Origin{}, "x", 0, "", api.ErrArg)

@@ -113,7 +113,7 @@ func TestHandles(t *testing.T) {
 	checkHandles(t, l, 7)
 }
 
-// P22.1: a nil Table, and one that is made by hand.
+// P22.1: a nil Table; R1: one that is made by hand.
 func TestNil(t *testing.T) {
 	var l *table.Table[string]
 	if h, e := l.Put("a"); e != api.ErrArg || h != 0 {

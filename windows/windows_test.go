@@ -17,6 +17,7 @@ var fine = []struct{ p, url string }{
 	{"C:\\", "file:///C:/"},
 	{"C:/", "file:///C:/"},
 	{"z:\\a", "file:///z:/a"},
+	{"x:\\x\\yx", "file:///x:/x/yx"},
 	{"C:\\a\\", "file:///C:/a/"},
 	{"C:/a/b\\", "file:///C:/a/b/"},
 	{"C:\\...", "file:///C:/..."},
@@ -96,7 +97,10 @@ func TestFree(t *testing.T) {
 	const barred = "<>:\"|?*"
 	for k := range 0x80 {
 		c := string([]byte{byte(k)})
-		for _, p := range []string{"C:\\a" + c + "b", "C:\\a\\x" + c + "y\\b", "\\\\h\\a" + c + "b", "\\\\h\\s\\a" + c + "b"} {
+		if c == "/" || c == "\\" {
+			continue
+		}
+		for _, p := range []string{"C:\\" + c + "b", "C:\\a" + c, "C:\\a" + c + "b", "C:\\a\\x" + c + "y\\b", "\\\\h\\a" + c + "b", "\\\\h\\s\\a" + c + "b"} {
 			if k < 0x20 || strings.Contains(barred, c) {
 				checkNotFine(t, p)
 			} else if !windows.Fine(p) {
@@ -146,7 +150,6 @@ func TestPath(t *testing.T) {
 		{file("h", "s"), "\\\\h\\s"},
 		{file("h", "%53", ""), "\\\\h\\S\\"},
 		{file("1.2.3.4", "s", "a%20b"), "\\\\1.2.3.4\\s\\a b"},
-		{file("", "", "", "h", "s"), "\\\\h\\s"},
 		{bare, "c:\\a"},
 		{hidden, "\\\\h\\s"},
 		{more, "c:\\a"},
