@@ -121,8 +121,10 @@ func TestHosts(t *testing.T) {
 		if c == "\\" || c == "/" {
 			continue
 		}
-		if got := windows.Fine("\\\\a" + c + "b\\s"); got != strings.Contains(good, c) {
-			t.Errorf("host with %x: %v", k, got)
+		for _, p := range []string{"\\\\a" + c + "b\\s", "\\\\" + c + "ab\\s", "//ab" + c + "/s"} {
+			if got := windows.Fine(p); got != strings.Contains(good, c) {
+				t.Errorf("Fine(%q): %v", p, got)
+			}
 		}
 	}
 }
